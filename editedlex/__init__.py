@@ -1,0 +1,1 @@
+"""edlex: the tokens of a text that is being edited."""

@@ -1,0 +1,44 @@
+"""Calls on an edited text, handed in as one list of whole numbers and answered by another."""
+
+from editedlex.edited import EditedText
+
+RULE = 1
+MATCH = 2
+EDIT = 3
+COUNTS = 4
+
+# By a call's number: how many whole numbers it has, and whether a row stands behind them.
+WHOLE_NUMBERS = {1: 0, 2: 1, 3: 2, 4: 0, 5: 1}
+HAS_ROW = {1: True, 2: True, 3: True, 4: False, 5: False}
+
+
+def answers(calls):
+    """For each call, in order, how many numbers it answers, and these."""
+    edited = EditedText()
+    told = []
+    place = 0
+    while place < len(calls):
+        call = calls[place]
+        row_place = place + 1 + WHOLE_NUMBERS[call]
+        numbers = calls[place + 1:row_place]
+        row = []
+        place = row_place
+        if HAS_ROW[call]:
+            place = row_place + 1 + calls[row_place]
+            row = calls[row_place + 1:place]
+        answer = answer_of(edited, call, numbers, row)
+        told.append(len(answer))
+        told.extend(answer)
+    return told
+
+
+def answer_of(edited, call, numbers, row):
+    if call == RULE:
+        return edited.add_rule(row)
+    if call == MATCH:
+        return edited.longest_match(numbers[0], row)
+    if call == EDIT:
+        return edited.edit(numbers[0], numbers[1], row)
+    if call == COUNTS:
+        return edited.counts()
+    return edited.token(numbers[0])
