@@ -3,8 +3,8 @@
 import random
 import unittest
 
-from support import (ANYTHING, alt, best_by_words, byte, change_by_words, counts, edit, length_by_words, many, match,
-                     nothing, pieces, row, rule, run, scan_by_words, seq, some, token, tokens_of, told_tokens, word)
+from support import (ANYTHING, alt, byte, change_by_words, counts, edit, length_by_words, many, nothing, pieces, row,
+                     rule, run, scan_by_words, seq, some, token, tokens_of, told_tokens, word)
 
 NAME = some("a", "z")
 NUMBER = some("0", "9")
