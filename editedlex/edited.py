@@ -9,7 +9,10 @@ MOST_BYTES = 512
 
 
 class EditedText:
-    """Each call gives back the list of what it answers; a refusal is its number alone, and changes nothing."""
+    """Each call gives back the list of what it answers; a refusal is its number alone, and changes nothing.
+
+    Where a call asks for tokens of a rule, that is the rule as it is told of a token: 0 for no rule.
+    """
 
     def __init__(self):
         self.rules = []
@@ -58,3 +61,24 @@ class EditedText:
             return [-1]
         found = self.tokens[number]
         return [0, found.begin, len(found.piece), found.rule]
+
+    def token_at(self, place):
+        if place >= len(self.text):
+            return [-1]
+        # Tokens cover the text without gaps, so the last one that has begun holds the byte.
+        begun = [token for token in self.tokens if token.begin <= place]
+        return [len(begun) - 1]
+
+    def find_token(self, rule, begin_at):
+        for number in range(begin_at, len(self.tokens)):
+            if self.tokens[number].rule == rule:
+                return [number]
+        return [-1]
+
+    def tally(self, rule):
+        return [len([token for token in self.tokens if token.rule == rule])]
+
+    def text_from(self, at, size):
+        if at + size > len(self.text):
+            return [-1]
+        return [0, size] + self.text[at:at + size]

@@ -6,10 +6,14 @@ RULE = 1
 MATCH = 2
 EDIT = 3
 COUNTS = 4
+TOKEN = 5
+AT = 6
+FIND = 7
+TALLY = 8
 
 # By a call's number: how many whole numbers it has, and whether a row stands behind them.
-WHOLE_NUMBERS = {1: 0, 2: 1, 3: 2, 4: 0, 5: 1}
-HAS_ROW = {1: True, 2: True, 3: True, 4: False, 5: False}
+WHOLE_NUMBERS = {1: 0, 2: 1, 3: 2, 4: 0, 5: 1, 6: 1, 7: 2, 8: 1, 9: 2}
+HAS_ROW = {1: True, 2: True, 3: True, 4: False, 5: False, 6: False, 7: False, 8: False, 9: False}
 
 
 def answers(calls):
@@ -41,4 +45,12 @@ def answer_of(edited, call, numbers, row):
         return edited.edit(numbers[0], numbers[1], row)
     if call == COUNTS:
         return edited.counts()
-    return edited.token(numbers[0])
+    if call == TOKEN:
+        return edited.token(numbers[0])
+    if call == AT:
+        return edited.token_at(numbers[0])
+    if call == FIND:
+        return edited.find_token(numbers[0], numbers[1])
+    if call == TALLY:
+        return edited.tally(numbers[0])
+    return edited.text_from(numbers[0], numbers[1])

@@ -44,6 +44,12 @@ def some(lo, hi):
     return [byte(lo, hi), many(0), seq(0, 1)]
 
 
+NAME = some("a", "z")
+NUMBER = some("0", "9")
+BLANKS = some(" ", " ")
+QUOTED = [byte("'"), byte(" ", "&"), byte("(", "~"), alt(1, 2), many(3), seq(0, 4), seq(5, 0)]
+
+
 def row(s):
     return [ord(letter) for letter in s] if isinstance(s, str) else list(s)
 
@@ -70,6 +76,22 @@ def counts():
 
 def token(i):
     return [5, i]
+
+
+def token_at(pos):
+    return [6, pos]
+
+
+def find(owner, begin_at):
+    return [7, owner, begin_at]
+
+
+def tally(owner):
+    return [8, owner]
+
+
+def text_from(at, n):
+    return [9, at, n]
 
 
 def may_be_asked(calls):
@@ -129,6 +151,17 @@ def length_by_words(nodes, text):
     return max(fitting, default=None)
 
 
+def some_rule(source):
+    """Nodes over a and b, made up from this random source, that don't match the empty text."""
+    while True:
+        nodes = [byte("a"), byte("b"), byte("a", "b"), nothing()]
+        for place in range(4, source.randrange(5, 10)):
+            a, b = source.randrange(place), source.randrange(place)
+            nodes.append(source.choice([seq(a, b), seq(a, b), alt(a, b), many(a)]))
+        if length_by_words(nodes, "") is None:
+            return nodes
+
+
 def best_by_words(text, rules):
     """The longest match at the beginning and its rule as it is told, (0, 0) if there's none."""
     best = (0, 0)
@@ -164,3 +197,81 @@ def change_by_words(before, after):
     old, new = before[first:], after[first:]
     last = max(n for n in range(shorter - first + 1) if old[len(old) - n:] == new[len(new) - n:])
     return [first, len(old) - last, len(new) - last]
+
+
+def is_row_of_nodes(numbers):
+    """Whether these are 1 to 32 nodes of five numbers each, every one as the document says it."""
+    if len(numbers) not in range(5, 161, 5):
+        return False
+    for place in range(len(numbers) // 5):
+        kind, lo, hi, a, b = numbers[5 * place:5 * place + 5]
+        parts = {SEQ: [a, b], ALT: [a, b], MANY: [a]}.get(kind, [])
+        if kind > MANY or max(parts, default=-1) >= place or kind == BYTE and not lo <= hi <= 255:
+            return False
+    return True
+
+
+class ByWords:
+    """All nine calls as the document's words tell them; each question scans the text anew."""
+
+    def __init__(self):
+        self.rules = []
+        self.text = []
+
+    def answer(self, call):
+        does = {1: self.rule, 2: self.match, 3: self.edit, 4: self.counts, 5: self.token, 6: self.at, 7: self.find,
+                8: self.tally, 9: self.text_from}
+        return does[call[0]](*call[1:])
+
+    def tokens(self):
+        return scan_by_words(self.text, self.rules)
+
+    def rule(self, size, *numbers):
+        if self.text:
+            return [-1]
+        if len(self.rules) == 8:
+            return [-2]
+        if not is_row_of_nodes(numbers):
+            return [-3]
+        nodes = [numbers[begin:begin + 5] for begin in range(0, size, 5)]
+        if length_by_words(nodes, "") is not None:
+            return [-4]
+        self.rules.append(nodes)
+        return [len(self.rules) - 1]
+
+    def match(self, k, size, *s):
+        if k >= len(self.rules):
+            return [-2]
+        if size > 512:
+            return [-3]
+        return [length_by_words(self.rules[k], s) or -1]
+
+    def edit(self, at, remove, size, *s):
+        if at + remove > len(self.text):
+            return [-1]
+        if size > 512 or len(self.text) - remove + size > 512:
+            return [-2]
+        before = pieces(self.text, self.tokens())
+        self.text = self.text[:at] + list(s) + self.text[at + remove:]
+        return [0] + change_by_words(before, pieces(self.text, self.tokens()))
+
+    def counts(self):
+        return [0, len(self.text), len(self.tokens()), len(self.rules)]
+
+    def token(self, i):
+        tokens = self.tokens()
+        return [0, *tokens[i]] if i < len(tokens) else [-1]
+
+    def at(self, pos):
+        inside = [i for i, (begin, size, owner) in enumerate(self.tokens()) if begin <= pos < begin + size]
+        return inside or [-1]
+
+    def find(self, owner, begin_at):
+        having = [i for i, found in enumerate(self.tokens()) if found[2] == owner and i >= begin_at]
+        return having[:1] or [-1]
+
+    def tally(self, owner):
+        return [[found[2] for found in self.tokens()].count(owner)]
+
+    def text_from(self, at, n):
+        return [0, n, *self.text[at:at + n]] if at + n <= len(self.text) else [-1]

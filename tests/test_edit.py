@@ -3,13 +3,9 @@
 import random
 import unittest
 
-from support import (ANYTHING, alt, byte, change_by_words, counts, edit, length_by_words, many, nothing, pieces, row,
-                     rule, run, scan_by_words, seq, some, token, tokens_of, told_tokens, word)
+from support import (ANYTHING, BLANKS, NAME, NUMBER, QUOTED, byte, change_by_words, counts, edit, many, pieces, row,
+                     rule, run, scan_by_words, seq, some, some_rule, token, tokens_of, told_tokens, word)
 
-NAME = some("a", "z")
-NUMBER = some("0", "9")
-BLANKS = some(" ", " ")
-QUOTED = [byte("'"), byte(" ", "&"), byte("(", "~"), alt(1, 2), many(3), seq(0, 4), seq(5, 0)]
 REMARK = [byte("/"), byte("*"), seq(0, 1), byte(0, 255), many(3), seq(2, 4), seq(1, 0), seq(5, 6)]
 
 
@@ -241,7 +237,7 @@ class ByTheWords(unittest.TestCase):
     def test_edits_of_all_forms(self):
         source = random.Random(4)
         for _ in range(120):
-            rules = [self.some_rule(source) for _ in range(source.randrange(4))]
+            rules = [some_rule(source) for _ in range(source.randrange(4))]
             size = 0
             edits = []
             for _ in range(6):
@@ -251,15 +247,6 @@ class ByTheWords(unittest.TestCase):
                 edits.append((at, remove, s))
                 size += len(s) - remove
             self.follow(rules, edits)
-
-    def some_rule(self, source):
-        while True:
-            nodes = [byte("a"), byte("b"), byte("a", "b"), nothing()]
-            for place in range(4, source.randrange(5, 10)):
-                a, b = source.randrange(place), source.randrange(place)
-                nodes.append(source.choice([seq(a, b), seq(a, b), alt(a, b), many(a)]))
-            if length_by_words(nodes, "") is None:
-                return nodes
 
 
 if __name__ == "__main__":
